@@ -1,0 +1,110 @@
+"""Looks at the package's own files by those rules of LANGUAGE.md that a plain walk can see."""
+
+import ast
+import re
+import unittest
+from pathlib import Path
+
+PACKAGE = Path(__file__).resolve().parent.parent / "twotimes"
+STATEMENTS = (
+    ast.Assign, ast.AugAssign, ast.If, ast.While, ast.For, ast.Return, ast.Break, ast.Continue, ast.Pass, ast.Raise,
+    ast.Try, ast.Expr, ast.FunctionDef, ast.ClassDef, ast.ImportFrom,
+)
+NOT_USED = (
+    ast.Starred, ast.NamedExpr, ast.SetComp, ast.DictComp, ast.GeneratorExp, ast.Yield, ast.YieldFrom, ast.Await,
+    ast.Div, ast.MatMult,
+)
+OWN_NAMES = set(
+    "len range enumerate zip min max sum abs sorted reversed int str bool list tuple dict set isinstance ord repr"
+    " any all divmod Exception ValueError TypeError KeyError IndexError LookupError ZeroDivisionError ArithmeticError"
+    " OverflowError RuntimeError NotImplementedError StopIteration".split()
+)
+METHODS = ("__init__", "__eq__", "__repr__", "__str__", "__len__")
+WORDS = re.compile(
+    r"\b(type|typing|typing_extensions|enum|Enum|IntEnum|StrEnum|Flag|IntFlag|Generic|Protocol|ABC|ABCMeta|namedtuple"
+    r"|NamedTuple|TypedDict|TYPE_CHECKING|abstractmethod)\b|dataclass|overload|contextmanager"
+)
+
+
+def files():
+    return [path for path in sorted(PACKAGE.rglob("*")) if "__pycache__" not in path.parts]
+
+
+def trees():
+    return [(path.name, ast.parse(path.read_text())) for path in files()]
+
+
+def bound_names(tree):
+    names = set()
+    for node in ast.walk(tree):
+        if isinstance(node, ast.Name) and not isinstance(node.ctx, ast.Load):
+            names.add(node.id)
+        elif isinstance(node, (ast.FunctionDef, ast.ClassDef)):
+            names.add(node.name)
+        elif isinstance(node, ast.arg):
+            names.add(node.arg)
+        elif isinstance(node, ast.alias):
+            names.add(node.asname or node.name)
+        elif isinstance(node, ast.ExceptHandler) and node.name:
+            names.add(node.name)
+    return names
+
+
+class Language(unittest.TestCase):
+    def test_files(self):
+        self.assertIn(PACKAGE / "__init__.py", files())
+        for path in files():
+            self.assertRegex(path.name, r"^(__init__|[a-z][a-z0-9_]*)\.py$")
+
+    def test_signs_and_sizes(self):
+        for path in files():
+            text = path.read_text()
+            self.assertRegex(text, r"\A[ -~\n]*\Z", path.name)
+            self.assertIsNone(WORDS.search(text), path.name)
+            self.assertLessEqual(len(text.splitlines()), 400, path.name)
+            self.assertLessEqual(max(map(len, text.splitlines()), default=0), 120, path.name)
+
+    def test_functions(self):
+        for name, tree in trees():
+            for node in ast.walk(tree):
+                if isinstance(node, ast.FunctionDef):
+                    where = (name, node.name)
+                    self.assertLess(node.end_lineno - node.lineno, 40, where)
+                    self.assertEqual(node.decorator_list, [], where)
+                    self.assertTrue(node.args.vararg is None and node.args.kwarg is None, where)
+                    self.assertEqual(node.args.kwonlyargs, [], where)
+
+    def test_statements_and_expressions(self):
+        for name, tree in trees():
+            for node in ast.walk(tree):
+                where = (name, getattr(node, "lineno", 0))
+                self.assertNotIsInstance(node, NOT_USED, where)
+                if isinstance(node, ast.stmt):
+                    self.assertIsInstance(node, STATEMENTS, where)
+                if isinstance(node, ast.Assign):
+                    self.assertEqual(len(node.targets), 1, where)
+                if isinstance(node, (ast.For, ast.While, ast.Try)):
+                    self.assertEqual(getattr(node, "finalbody", []), [], where)
+                    self.assertTrue(isinstance(node, ast.Try) or node.orelse == [], where)
+                if isinstance(node, ast.Constant):
+                    self.assertIsInstance(node.value, (int, str, bool, type(None)), where)
+
+    def test_imports(self):
+        for name, tree in trees():
+            for node in ast.walk(tree):
+                if isinstance(node, ast.ImportFrom):
+                    self.assertEqual((node.level, node.module.split(".")[0]), (0, "twotimes"), name)
+                    self.assertIn(node, tree.body, name)
+                    self.assertNotIn("*", [alias.name for alias in node.names], name)
+
+    def test_names(self):
+        for name, tree in trees():
+            bound = bound_names(tree)
+            self.assertEqual(bound & OWN_NAMES, set(), name)
+            self.assertEqual([word for word in bound if word.startswith("_") and word not in METHODS], [], name)
+            read = set(node.id for node in ast.walk(tree) if isinstance(node, ast.Name))
+            self.assertEqual(read - bound - OWN_NAMES, set(), name)
+
+
+if __name__ == "__main__":
+    unittest.main()

@@ -1,0 +1,1 @@
+"""Sheets of facts with two times: when something holds, and how much had been told."""
