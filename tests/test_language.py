@@ -19,6 +19,11 @@ OWN_NAMES = set(
     " any all divmod Exception ValueError TypeError KeyError IndexError LookupError ZeroDivisionError ArithmeticError"
     " OverflowError RuntimeError NotImplementedError StopIteration".split()
 )
+OWN_METHODS = set(
+    "append clear copy count endswith extend find get index insert isalnum isalpha isdigit islower isspace isupper items"
+    " join keys ljust lower lstrip partition pop remove replace reverse rfind rjust rpartition rsplit rstrip setdefault"
+    " split splitlines startswith strip update upper values zfill bit_length".split()
+)
 METHODS = ("__init__", "__eq__", "__repr__", "__str__", "__len__")
 WORDS = re.compile(
     r"\b(type|typing|typing_extensions|enum|Enum|IntEnum|StrEnum|Flag|IntFlag|Generic|Protocol|ABC|ABCMeta|namedtuple"
@@ -48,6 +53,14 @@ def bound_names(tree):
         elif isinstance(node, ast.ExceptHandler) and node.name:
             names.add(node.name)
     return names
+
+
+def nodes_of(kind):
+    return [node for name, tree in trees() for node in ast.walk(tree) if isinstance(node, kind)]
+
+
+def package_methods():
+    return {part.name for node in nodes_of(ast.ClassDef) for part in node.body if isinstance(part, ast.FunctionDef)}
 
 
 class Language(unittest.TestCase):
@@ -104,6 +117,25 @@ class Language(unittest.TestCase):
             self.assertEqual([word for word in bound if word.startswith("_") and word not in METHODS], [], name)
             read = set(node.id for node in ast.walk(tree) if isinstance(node, ast.Name))
             self.assertEqual(read - bound - OWN_NAMES, set(), name)
+
+    def test_no_name_is_a_method_and_a_value(self):
+        values = {node.attr for node in nodes_of(ast.Attribute) if isinstance(node.ctx, ast.Store)}
+        self.assertEqual(values & package_methods(), set())
+
+    def test_methods_are_called_where_they_stand(self):
+        nodes = nodes_of((ast.Call, ast.Attribute))
+        called = [node.func for node in nodes if isinstance(node, ast.Call) and isinstance(node.func, ast.Attribute)]
+        others = [node for node in nodes if isinstance(node, ast.Attribute) and node not in called]
+        known = package_methods() | OWN_METHODS
+        self.assertEqual({node.attr for node in called} - known, set())
+        self.assertEqual({node.attr for node in others} & known, set())
+
+    def test_is_stands_beside_none_and_truths(self):
+        for node in nodes_of(ast.Compare):
+            for sign, side in zip(node.ops, node.comparators):
+                if isinstance(sign, (ast.Is, ast.IsNot)):
+                    self.assertIsInstance(side, ast.Constant, node.lineno)
+                    self.assertIn(side.value, (None, True, False), node.lineno)
 
 
 if __name__ == "__main__":
