@@ -1,13 +1,56 @@
-"""What the document says of lines and sheets, moment by moment and knowing by knowing.
+"""What the document says of lines and sheets, moment by moment and knowing by knowing; and checks that tests share.
 
-A line is read as a row of worths, the last one standing for ever; a sheet as the list of its tellings.
+A line is read as a row of worths, the last one standing for ever; a sheet as the list of its tellings; a table, a
+dict from keys to lines, as a dict from keys to such rows.
 """
 
+import unittest
 from itertools import product
 from random import Random
 
+from twotimes.errors import (
+    Broken, Forgotten, NoFit, NoKnowing, NoLog, NoName, NoRow, NoSheet, NoStretch, TimesError,
+)
+
+LAST = 10 ** 12
+HUGE = 10 ** 5000
 # Further than any bound that the rows below can make.
-FAR = (10 ** 6, 10 ** 12)
+FAR = (10 ** 6, LAST)
+REFUSALS = (NoName, NoStretch, NoKnowing, Forgotten, NoSheet, Broken, NoFit, NoLog, NoRow)
+NO_NAMES = (
+    "", "abcdefghi", "A", "aB", "a1", "1", " ", "a ", " a", "a b", "a\n", "-", "\u00e4", "\uff41",
+    None, 0, 5, HUGE, True, 1.5, b"a", [], ["a"], ("a",), {}, object(),
+)
+NO_STRETCHES = (
+    (-1, 5), (-1, None), (-HUGE, None), (LAST + 1, None), (LAST + 1, LAST + 2), (HUGE, None),
+    (False, 5), (True, 5), (True, None), ("0", 5), ("a", None), (None, 5), (None, None), (0.0, 5), ([], 5),
+    (5, 5), (5, 4), (5, 0), (5, -1), (0, 0), (LAST, LAST), (0, LAST + 1), (LAST, LAST + 1), (0, HUGE),
+    (0, True), (0, False), (0, "5"), (0, ""), (0, "-"), (0, 5.0), (0, []),
+)
+
+
+class Case(unittest.TestCase):
+    def check_refused(self, kind, call):
+        for taken in (TimesError, ValueError, kind):
+            with self.assertRaises(taken) as caught:
+                call()
+            self.assertEqual([other for other in REFUSALS if isinstance(caught.exception, other)], [kind])
+        return caught.exception
+
+    # Of a call that tells a list which isn't empty: what is told is the asker's own.
+    def check_own(self, call):
+        told, again = call(), call()
+        wanted = list(again)
+        self.assertIs(type(told), list)
+        self.assertIsNot(told, again)
+        for thing in told:
+            self.assertFalse(isinstance(thing, tuple) and any(thing is other for other in again))
+        told[0] = None
+        told.append(None)
+        self.assertEqual(call(), wanted)
+        call().clear()
+        self.assertEqual(call(), wanted)
+        self.assertEqual(again, wanted)
 
 
 def line_of(row):
@@ -75,6 +118,62 @@ def story_read(tellings, key, moment):
     return line_of(worths)
 
 
+def table_read(tellings, length):
+    table = {}
+    for key in {telling[1] for telling in tellings}:
+        row = [worth_read(tellings, key, moment) for moment in range(length)]
+        if any(row):
+            table[key] = row
+    return table
+
+
+def by_key_read(table, other):
+    told = []
+    for key in sorted(set(table) & set(other)):
+        pairs = [None if None in pair else pair for pair in zip(table[key], other[key])]
+        told.extend((key, begin, end) + pair for begin, end, pair in line_of(pairs))
+    return told
+
+
+def by_worth_read(table, other):
+    told = []
+    for key, other_key in product(table, other):
+        alike = [one if one == two else None for one, two in zip(table[key], other[other_key])]
+        told.extend((worth, key, other_key, begin, end) for begin, end, worth in line_of(alike))
+    return sorted(told, key=lambda row: row[:4])
+
+
+# The first place at which a key breaks a rule, by what the rule says of a key and a moment.
+def place_read(table, length, breaks):
+    for moment in range(length):
+        for key in sorted(table):
+            if table[key][moment] is not None and breaks(key, moment):
+                return (moment, key)
+    return None
+
+
+def alone_read(table, length):
+    def shares(key, moment):
+        return any(table[other][moment] == table[key][moment] for other in table if other != key)
+
+    return place_read(table, length, shares)
+
+
+def named_read(table, other, length):
+    def is_without(key, moment):
+        worth = table[key][moment]
+        return worth not in other or other[worth][moment] is None
+
+    return place_read(table, length, is_without)
+
+
+def still_read(table, length):
+    def is_another(key, moment):
+        return any(worth not in (None, table[key][moment]) for worth in table[key][:moment])
+
+    return place_read(table, length, is_another)
+
+
 def tellings_of(key, length, worths=("a", "b")):
     told = []
     for begin, end in stretches(length):
@@ -110,8 +209,8 @@ class From:
         return self.sheet.knowings()
 
     def asked(self, knowing):
-        if knowing < self.start:
-            raise AssertionError("asked below its first knowing")
+        if 0 <= knowing < self.start:
+            raise Forgotten("asked below its first knowing")
         return knowing
 
     def worth_at(self, key, moment, knowing):

@@ -1,6 +1,7 @@
 """Looks at the package's own files by those rules of LANGUAGE.md that a plain walk can see."""
 
 import ast
+import builtins
 import re
 import unittest
 from pathlib import Path
@@ -24,6 +25,9 @@ OWN_METHODS = set(
     " join keys ljust lower lstrip partition pop remove replace reverse rfind rjust rpartition rsplit rstrip setdefault"
     " split splitlines startswith strip update upper values zfill bit_length".split()
 )
+WALKED = set("zip enumerate reversed range items keys values".split())
+WALKING = set("list tuple dict sorted sum any all enumerate zip min max".split())
+KEYWORDS = {"sorted": {"key", "reverse"}, "min": {"key", "default"}, "max": {"key", "default"}}
 METHODS = ("__init__", "__eq__", "__repr__", "__str__", "__len__")
 WORDS = re.compile(
     r"\b(type|typing|typing_extensions|enum|Enum|IntEnum|StrEnum|Flag|IntFlag|Generic|Protocol|ABC|ABCMeta|namedtuple"
@@ -57,6 +61,10 @@ def bound_names(tree):
 
 def nodes_of(kind):
     return [node for name, tree in trees() for node in ast.walk(tree) if isinstance(node, kind)]
+
+
+def called_name(node):
+    return node.func.attr if isinstance(node.func, ast.Attribute) else getattr(node.func, "id", None)
 
 
 def package_methods():
@@ -113,7 +121,7 @@ class Language(unittest.TestCase):
     def test_names(self):
         for name, tree in trees():
             bound = bound_names(tree)
-            self.assertEqual(bound & OWN_NAMES, set(), name)
+            self.assertEqual(bound & set(dir(builtins)) - set(METHODS), set(), name)
             self.assertEqual([word for word in bound if word.startswith("_") and word not in METHODS], [], name)
             read = set(node.id for node in ast.walk(tree) if isinstance(node, ast.Name))
             self.assertEqual(read - bound - OWN_NAMES, set(), name)
@@ -129,6 +137,20 @@ class Language(unittest.TestCase):
         known = package_methods() | OWN_METHODS
         self.assertEqual({node.attr for node in called} - known, set())
         self.assertEqual({node.attr for node in others} & known, set())
+
+    def test_walked_on_the_spot(self):
+        nodes = nodes_of((ast.For, ast.comprehension, ast.Call))
+        calls = [node for node in nodes if isinstance(node, ast.Call)]
+        walks = [node.iter for node in nodes if not isinstance(node, ast.Call)]
+        walks += [node.args[0] for node in calls if called_name(node) in WALKING | {"join"} and node.args]
+        for node in calls:
+            if called_name(node) in WALKED:
+                self.assertTrue(any(node is walk for walk in walks), ast.unparse(node))
+
+    def test_keywords(self):
+        for node in nodes_of(ast.Call):
+            names = {keyword.arg for keyword in node.keywords}
+            self.assertEqual(names - KEYWORDS.get(called_name(node), set()), set(), ast.unparse(node))
 
     def test_is_stands_beside_none_and_truths(self):
         for node in nodes_of(ast.Compare):

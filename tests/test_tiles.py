@@ -1,12 +1,13 @@
 import unittest
 from itertools import product
 
-from by_moments import From, FAR, has, line_read, long_rows, sheet_told, tellings_of, tiles_read, worth_read
+from by_moments import (
+    Case, FAR, From, LAST, has, line_read, long_rows, sheet_told, tellings_of, tiles_read, worth_read,
+)
 from twotimes.errors import NoKnowing, NoName, NoStretch
 from twotimes.sheets import Sheet
 from twotimes.tiles import Tiled, tiles_of
 
-LAST = 10 ** 12
 ROW = [
     ("put", "bob", "red", 10, 20),
     ("put", "ada", "red", 30, None),
@@ -220,27 +221,15 @@ class AnswersLikeASheet(unittest.TestCase):
                 self.assertEqual(sheet.tiles(), TILES)
 
 
-class AskersOwn(unittest.TestCase):
+class AskersOwn(Case):
     def calls(self):
         sheet, tiled = sheet_told(Sheet, ROW), sheet_told(Tiled, ROW)
         return [tiled.tiles, lambda: tiles_of(tiled), lambda: tiles_of(sheet)]
 
-    def test_told_lists_and_tuples_are_new(self):
-        for call in self.calls():
-            told, again = call(), call()
-            self.assertIs(type(told), list)
-            self.assertIsNot(told, again)
-            for tile in told:
-                self.assertIs(type(tile), tuple)
-                self.assertFalse(any(tile is other for other in again))
-
     def test_what_the_asker_does_changes_nothing(self):
         for call in self.calls():
-            told = call()
-            told[0] = None
-            told.append(("ada", "bad", 0, 1, 0, None))
-            self.assertEqual(call(), TILES)
-            call().clear()
+            self.check_own(call)
+            call().append(("ada", "bad", 0, 1, 0, None))
             self.assertEqual(call(), TILES)
 
     def test_told_earlier_stay_and_come_into_no_later_telling(self):

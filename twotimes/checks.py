@@ -1,6 +1,6 @@
-"""Refusals of names, moments and stretches, the same wherever they are asked."""
+"""Refusals of names, moments, stretches and knowings, the same wherever they are asked."""
 
-from twotimes.errors import NoName, NoStretch
+from twotimes.errors import NoKnowing, NoName, NoStretch
 from twotimes.stretches import is_moment, is_name, is_stretch
 
 # The words don't show what was refused: a number of some thousand figures can't be shown.
@@ -19,3 +19,8 @@ def check_moment(thing):
 def check_stretch(begin, end):
     if not is_stretch(begin, end):
         raise NoStretch("a stretch has a moment as its begin, and as its end a moment above it or None")
+
+
+def check_in_reach(knowing, last):
+    if knowing < 0 or knowing > last:
+        raise NoKnowing("a knowing is a whole number from 0 to how many tellings there are")

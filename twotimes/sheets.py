@@ -1,7 +1,6 @@
 """Sheets: what worth a key has at a moment, as it was known behind so many tellings."""
 
-from twotimes.checks import check_moment, check_name, check_stretch
-from twotimes.errors import NoKnowing
+from twotimes.checks import check_in_reach, check_moment, check_name, check_stretch
 from twotimes.lines import put_on, worth_in
 
 
@@ -12,8 +11,9 @@ def check_telling(telling):
     check_stretch(telling[-2], telling[-1])
 
 
-def worth_told(telling):
-    return telling[2] if telling[0] == "put" else None
+def line_behind(line, telling):
+    worth = telling[2] if telling[0] == "put" else None
+    return put_on(line, telling[-2], telling[-1], worth)
 
 
 class Sheet:
@@ -25,7 +25,7 @@ class Sheet:
     def tell(self, telling):
         check_telling(telling)
         key = telling[1]
-        line = put_on(self.known_line(key, self.last), telling[-2], telling[-1], worth_told(telling))
+        line = line_behind(self.known_line(key, self.last), telling)
         self.last += 1
         self.keep_line(key, line)
         return self.last
@@ -52,8 +52,7 @@ class Sheet:
         return sorted([key for key in self.kept if self.known_line(key, knowing)])
 
     def check_knowing(self, knowing):
-        if knowing < 0 or knowing > self.last:
-            raise NoKnowing("a knowing is a whole number from 0 to how many tellings there are")
+        check_in_reach(knowing, self.last)
 
     def keep_line(self, key, line):
         self.kept.setdefault(key, []).append((self.last, line))
