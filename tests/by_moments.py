@@ -1,4 +1,4 @@
-"""What the document says of lines and sheets, moment by moment and knowing by knowing; and checks that tests share.
+"""What the document says of lines, sheets and books, moment by moment and knowing by knowing; and what tests share.
 
 A line is read as a row of worths, the last one standing for ever; a sheet as the list of its tellings; a table, a
 dict from keys to lines, as a dict from keys to such rows.
@@ -8,9 +8,12 @@ import unittest
 from itertools import product
 from random import Random
 
+from twotimes.books import Book
 from twotimes.errors import (
     Broken, Forgotten, NoFit, NoKnowing, NoLog, NoName, NoRow, NoSheet, NoStretch, TimesError,
 )
+from twotimes.rules import Alone, Named, Rule, Still
+from twotimes.tiles import tiles_of
 
 LAST = 10 ** 12
 HUGE = 10 ** 5000
@@ -21,12 +24,29 @@ NO_NAMES = (
     "", "abcdefghi", "A", "aB", "a1", "1", " ", "a ", " a", "a b", "a\n", "-", "\u00e4", "\uff41",
     None, 0, 5, HUGE, True, 1.5, b"a", [], ["a"], ("a",), {}, object(),
 )
+# Words that are no numbers.
+NO_NUMBERS = (
+    "00", "01", "007", "0000000000001", "10000000000000", "12345678901234", "00000000000000", "-1", "+1", "-0", "--",
+    "1-", "1.0", "1e3", "0x1", "1_0", "a", "1a", "a1", "0a", "None", "True", "\u0663", "\u00b2", "\uff11", "1,", "1\n",
+)
 NO_STRETCHES = (
     (-1, 5), (-1, None), (-HUGE, None), (LAST + 1, None), (LAST + 1, LAST + 2), (HUGE, None),
     (False, 5), (True, 5), (True, None), ("0", 5), ("a", None), (None, 5), (None, None), (0.0, 5), ([], 5),
     (5, 5), (5, 4), (5, 0), (5, -1), (0, 0), (LAST, LAST), (0, LAST + 1), (LAST, LAST + 1), (0, HUGE),
     (0, True), (0, False), (0, "5"), (0, ""), (0, "-"), (0, 5.0), (0, []),
 )
+# The sheets of a book, and a row that it takes with the rules below.
+NAMES = ["one", "two", "empty"]
+ROW = [
+    ("two", ("put", "red", "warm", 0, None)),
+    ("one", ("put", "ada", "red", 10, 20)),
+    ("two", ("put", "blue", "cold", 5, 50)),
+    ("one", ("put", "bob", "blue", 15, 30)),
+    ("one", ("clear", "ada", 12, 15)),
+    ("two", ("clear", "blue", 40, None)),
+    ("one", ("put", "cy", "red", 25, None)),
+    ("one", ("clear", "never", 0, None)),
+]
 
 
 class Case(unittest.TestCase):
@@ -51,6 +71,40 @@ class Case(unittest.TestCase):
         call().clear()
         self.assertEqual(call(), wanted)
         self.assertEqual(again, wanted)
+
+    # The same of a call that tells a table: the dict and each list in it.
+    def check_own_table(self, call):
+        told, again = call(), call()
+        wanted = {key: list(line) for key, line in again.items()}
+        self.assertIs(type(told), dict)
+        self.check_apart(list(told.values()) + list(again.values()))
+        for key in told:
+            self.check_own(lambda: call()[key])
+            told[key].append((0, 1, "bad"))
+        told["bad"] = []
+        self.assertEqual(call(), wanted)
+        call().clear()
+        self.assertEqual((call(), again), (wanted, wanted))
+
+    # Tellings that a book of the sheets and rules below refuses at each knowing of ROW.
+    def check_refuses_some(self, book):
+        self.check_refused(NoSheet, lambda: book.tell("three", ("put", "ada", "red", 0, 5)))
+        self.check_refused(NoName, lambda: book.tell("two", ("put", "Ada", "red", 0, 5)))
+        self.check_refused(NoStretch, lambda: book.tell("one", ("put", "ada", "red", 5, 5)))
+        self.check_refused(Broken, lambda: book.tell("one", ("put", "new", "none", 0, 5)))
+
+    # Of a call that is handed names and rules: it doesn't change these lists.
+    def check_stay(self, call):
+        names, given = list(NAMES), rules()
+        before = list(given)
+        call(names, given)
+        self.assertEqual((names, len(given)), (NAMES, len(before)))
+        self.assertTrue(all(rule is other for rule, other in zip(given, before)))
+
+    # Of lists: no two of them are one, and no two of their tuples.
+    def check_apart(self, lists):
+        for things in (lists, [thing for told in lists for thing in told if isinstance(thing, tuple)]):
+            self.assertEqual(len({id(thing) for thing in things}), len(things))
 
 
 def line_of(row):
@@ -100,22 +154,23 @@ def keys_read(tellings, length):
     return sorted(key for key in {telling[1] for telling in tellings} if line_read(tellings, key, length))
 
 
-def tiles_read(tellings, length):
+# Of a sheet that knows all from its first knowing on.
+def tiles_read(tellings, length, first=0):
     tiles = []
     for key in {telling[1] for telling in tellings}:
         lines = [line_read(tellings[:knowing], key, length) for knowing in range(len(tellings) + 1)]
-        for since, line in enumerate(lines):
-            for run in line:
-                if since == 0 or run not in lines[since - 1]:
+        for since in range(first, len(lines)):
+            for run in lines[since]:
+                if since == first or run not in lines[since - 1]:
                     later = [knowing for knowing in range(since, len(lines)) if run not in lines[knowing]]
                     until = later[0] if later else None
                     tiles.append((key, run[2], run[0], run[1], since, until))
     return sorted(tiles, key=lambda tile: (tile[0], tile[4], tile[2]))
 
 
-def story_read(tellings, key, moment):
+def story_read(tellings, key, moment, first=0):
     worths = [worth_read(tellings[:knowing], key, moment) for knowing in range(len(tellings) + 1)]
-    return line_of(worths)
+    return line_of([None] * first + worths[first:])
 
 
 def table_read(tellings, length):
@@ -141,6 +196,16 @@ def by_worth_read(table, other):
         alike = [one if one == two else None for one, two in zip(table[key], other[other_key])]
         told.extend((worth, key, other_key, begin, end) for begin, end, worth in line_of(alike))
     return sorted(told, key=lambda row: row[:4])
+
+
+def changes_read(table, later):
+    told = []
+    for key in sorted(set(table) | set(later)):
+        nothing = [None] * len((table.get(key) or later.get(key)))
+        pairs = list(zip(table.get(key, nothing), later.get(key, nothing)))
+        unlike = [None if then == now else (then, now) for then, now in pairs]
+        told.extend((key, begin, end) + pair for begin, end, pair in line_of(unlike))
+    return told
 
 
 # The first place at which a key breaks a rule, by what the rule says of a key and a moment.
@@ -172,6 +237,21 @@ def still_read(table, length):
         return any(worth not in (None, table[key][moment]) for worth in table[key][:moment])
 
     return place_read(table, length, is_another)
+
+
+# Rows of no form, made of one that has a form.
+def spoilt(row):
+    words = row.split(" ")
+    told = ["", " ", "  ", "x", "-", "now", "\n", row + " ", " " + row, row + " x", row + " 0", row + " -", "x " + row]
+    told += [row + "\n", "\n" + row, row + "\t", row.replace(" ", "\t"), row.replace(" ", ""), row + "\n" + row]
+    others = (words[0].upper(), words[0].title(), words[0] + "s", "-", "tell")
+    told += [" ".join([first] + words[1:]) for first in others]
+    for at in range(len(words)):
+        told.append(" ".join(words[:at] + words[at + 1:]))
+        told.append(" ".join(words[:at + 1]) + " ")
+        told.append(" ".join(words[:at] + [""] + words[at:]))
+        told.append(" ".join(words[:at] + ["x"] + words[at:]))
+    return [other for other in told if other != row]
 
 
 def tellings_of(key, length, worths=("a", "b")):
@@ -221,3 +301,72 @@ class From:
 
     def keys_at(self, knowing):
         return self.sheet.keys_at(self.asked(knowing))
+
+
+def rules():
+    return [Alone("one"), Named("one", "two"), Still("two")]
+
+
+def book_told(row=ROW, given=None):
+    book = Book(NAMES, rules() if given is None else given)
+    for name, telling in row:
+        book.tell(name, telling)
+    return book
+
+
+def told_to(row, name):
+    return [telling for other, telling in row if other == name]
+
+
+def sheet_view(sheet):
+    lines = []
+    for knowing in range(sheet.first(), sheet.knowings() + 1):
+        keys = sheet.keys_at(knowing)
+        asked = keys + ["ada", "bob", "cy", "never", "red", "blue"]
+        lines.append((keys, [sheet.line_at(key, knowing) for key in asked]))
+    return (sheet.knowings(), sheet.first(), lines, sheet.tiles(), tiles_of(sheet))
+
+
+def view(book):
+    known = [book.known(knowing) for knowing in range(book.knowings() + 1)]
+    sheets = [sheet_view(book.sheet(name)) for name, many in book.known(0)]
+    return (book.knowings(), book.tellings(), known, sheets)
+
+
+class Always(Rule):
+    """A rule that is always broken."""
+
+    def broken(self, tables):
+        return (7, "ada")
+
+
+# Names and rules that were handed in, made others behind it.
+def change_handed_in(names, given):
+    names[:] = ["three"]
+    given[:] = [Always()]
+
+
+# Rules beside what they say, moment by moment, of the tables of a book; and which of them go together.
+RULES = (
+    (Alone("one"), lambda tables, length: alone_read(tables["one"], length)),
+    (Named("one", "two"), lambda tables, length: named_read(tables["one"], tables["two"], length)),
+    (Still("two"), lambda tables, length: still_read(tables["two"], length)),
+    (Still("one"), lambda tables, length: still_read(tables["one"], length)),
+    (Named("two", "two"), lambda tables, length: named_read(tables["two"], tables["two"], length)),
+    (Rule(), lambda tables, length: None),
+)
+SETS = ((), (0,), (1,), (2,), (0, 1), (1, 0), (0, 2), (1, 2, 0), (5, 3, 1), (4, 3), (4, 5, 1, 0), (1, 0, 2, 3, 4))
+
+
+def long_book_row(chance, many):
+    ones = [("one", telling) for key in ("x", "y", "z") for telling in tellings_of(key, 4)]
+    twos = [("two", telling) for key in ("a", "b") for telling in tellings_of(key, 4)]
+    return [chance.choice(ones if chance.random() < 0.5 else twos) for number in range(many)]
+
+
+# Which of some rules, of those above, is broken behind a row: (its number, moment, key), or None.
+def broken_read(some, row):
+    tables = {name: table_read(told_to(row, name), 5) for name in ("one", "two")}
+    places = [read(tables, 5) for rule, read in some]
+    broken = [(number,) + place for number, place in enumerate(places) if place is not None]
+    return broken[0] if broken else None

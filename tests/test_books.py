@@ -3,56 +3,18 @@ from itertools import product
 from random import Random
 
 from by_moments import (
-    Case, FAR, HUGE, LAST, NO_NAMES, NO_STRETCHES, alone_read, named_read, sheet_told, still_read, table_read,
-    tellings_of,
+    Always, Case, FAR, HUGE, LAST, NAMES, NO_NAMES, NO_STRETCHES, ROW, RULES, SETS, book_told, broken_read,
+    change_handed_in, long_book_row, rules, sheet_told, sheet_view, told_to, view,
 )
 from twotimes.asks import story
 from twotimes.books import Book
 from twotimes.errors import Broken, NoKnowing, NoName, NoSheet, NoStretch
 from twotimes.joins import by_key
 from twotimes.rules import Alone, Named, Rule, Still
-from twotimes.tiles import Tiled, tiles_of
+from twotimes.tiles import Tiled
 
-NAMES = ["one", "two", "empty"]
 # What no sheet of a book below is called, and some that are no names at all.
 NO_SHEETS = ("three", "on", "onee", "ONE", "one ", "a", "ada", "put") + NO_NAMES
-ROW = [
-    ("two", ("put", "red", "warm", 0, None)),
-    ("one", ("put", "ada", "red", 10, 20)),
-    ("two", ("put", "blue", "cold", 5, 50)),
-    ("one", ("put", "bob", "blue", 15, 30)),
-    ("one", ("clear", "ada", 12, 15)),
-    ("two", ("clear", "blue", 40, None)),
-    ("one", ("put", "cy", "red", 25, None)),
-    ("one", ("clear", "never", 0, None)),
-]
-
-
-def rules():
-    return [Alone("one"), Named("one", "two"), Still("two")]
-
-
-def book_told(row=ROW, given=None):
-    book = Book(NAMES, rules() if given is None else given)
-    for name, telling in row:
-        book.tell(name, telling)
-    return book
-
-
-def told_to(row, name):
-    return [telling for other, telling in row if other == name]
-
-
-def sheet_view(sheet):
-    knowings = range(sheet.knowings() + 1)
-    keys = ("ada", "bob", "cy", "never", "red", "blue")
-    lines = [(sheet.keys_at(knowing), [sheet.line_at(key, knowing) for key in keys]) for knowing in knowings]
-    return (sheet.knowings(), sheet.first(), lines, sheet.tiles(), tiles_of(sheet))
-
-
-def view(book):
-    known = [book.known(knowing) for knowing in range(book.knowings() + 1)]
-    return (book.knowings(), book.tellings(), known, [sheet_view(book.sheet(name)) for name in NAMES])
 
 
 class Seen(Rule):
@@ -64,11 +26,6 @@ class Seen(Rule):
     def broken(self, tables):
         self.shown.append(tables)
         return None
-
-
-class Always(Rule):
-    def broken(self, tables):
-        return (7, "ada")
 
 
 class Books(Case):
@@ -285,10 +242,7 @@ class Refusals(Books):
     def test_behind_a_refusal_it_goes_on(self):
         book = Book(NAMES, rules())
         for number, (name, telling) in enumerate(ROW):
-            self.check_refused(NoSheet, lambda: book.tell("three", telling))
-            self.check_refused(NoName, lambda: book.tell(name, ("put", "Ada", "red", 0, 5)))
-            self.check_refused(NoStretch, lambda: book.tell(name, ("put", "ada", "red", 5, 5)))
-            self.check_refused(Broken, lambda: book.tell("one", ("put", "new", "none", 0, 5)))
+            self.check_refuses_some(book)
             self.assertEqual(book.tell(name, telling), number + 1)
         self.assertEqual(view(book), view(book_told()))
 
@@ -357,35 +311,12 @@ class Sheets(Books):
             self.assertEqual(book.sheet(name).line_at("ada", 1), [(LAST, None, "ada")])
 
 
-# Rules beside what they say, moment by moment, of the tables of a book.
-RULES = (
-    (Alone("one"), lambda tables, length: alone_read(tables["one"], length)),
-    (Named("one", "two"), lambda tables, length: named_read(tables["one"], tables["two"], length)),
-    (Still("two"), lambda tables, length: still_read(tables["two"], length)),
-    (Still("one"), lambda tables, length: still_read(tables["one"], length)),
-    (Named("two", "two"), lambda tables, length: named_read(tables["two"], tables["two"], length)),
-    (Rule(), lambda tables, length: None),
-)
-SETS = ((), (0,), (1,), (2,), (0, 1), (1, 0), (0, 2), (1, 2, 0), (5, 3, 1), (4, 3), (4, 5, 1, 0), (1, 0, 2, 3, 4))
-
-
 class ByMoments(Books):
-    def long_row(self, chance, many):
-        ones = [("one", telling) for key in ("x", "y", "z") for telling in tellings_of(key, 4)]
-        twos = [("two", telling) for key in ("a", "b") for telling in tellings_of(key, 4)]
-        return [chance.choice(ones if chance.random() < 0.5 else twos) for number in range(many)]
-
-    def place(self, some, row):
-        tables = {name: table_read(told_to(row, name), 5) for name in ("one", "two")}
-        places = [read(tables, 5) for rule, read in some]
-        broken = [(number,) + place for number, place in enumerate(places) if place is not None]
-        return broken[0] if broken else None
-
     # Tells the row to a book, with each answer as it is read, and gives back the tellings that were taken.
     def check_row(self, book, some, row):
         taken = []
         for name, telling in row:
-            place = self.place(some, taken + [(name, telling)])
+            place = broken_read(some, taken + [(name, telling)])
             if place is None:
                 taken.append((name, telling))
                 self.assertEqual(book.tell(name, telling), len(taken))
@@ -417,7 +348,7 @@ class ByMoments(Books):
         for numbers in SETS * 4:
             some = [RULES[number] for number in numbers]
             book = Book(["two", "one"], [rule for rule, read in some])
-            row = self.long_row(chance, 30)
+            row = long_book_row(chance, 30)
             told = self.check_row(book, some, row)
             self.check_knowings(book, some, told)
             for name in ("one", "two"):
@@ -463,10 +394,7 @@ class AskersOwn(Books):
     def test_names_and_rules_changed_behind_the_making(self):
         names, given = list(NAMES), rules()
         book = Book(names, given)
-        names.clear()
-        given.clear()
-        names.append("three")
-        given.append(Always())
+        change_handed_in(names, given)
         for name, telling in ROW:
             book.tell(name, telling)
         self.assertEqual(view(book), view(book_told()))
@@ -475,15 +403,13 @@ class AskersOwn(Books):
         self.check_still_as_it_was(book, NoSheet, "three", ("put", "red", "hot", 5, 9))
 
     def test_names_and_rules_are_not_changed(self):
-        names, given = list(NAMES), rules()
-        before = list(given)
-        book = Book(names, given)
-        for name, telling in ROW:
-            book.tell(name, telling)
-        self.check_broken(book, "two", ("put", "red", "hot", 5, 9), 2, 5, "red")
-        self.assertEqual(names, NAMES)
-        self.assertEqual(len(given), 3)
-        self.assertTrue(all(rule is other for rule, other in zip(given, before)))
+        def use(names, given):
+            book = Book(names, given)
+            for name, telling in ROW:
+                book.tell(name, telling)
+            self.check_broken(book, "two", ("put", "red", "hot", 5, 9), 2, 5, "red")
+
+        self.check_stay(use)
 
     def test_a_list_that_was_told_is_changed_behind_it(self):
         telling = ["put", "ada", "red", 10, 20]

@@ -63,6 +63,15 @@ def nodes_of(kind):
     return [node for name, tree in trees() for node in ast.walk(tree) if isinstance(node, kind)]
 
 
+def defined_names(tree):
+    names = {node.name for node in tree.body if isinstance(node, (ast.FunctionDef, ast.ClassDef))}
+    return names | {target.id for node in tree.body if isinstance(node, ast.Assign) for target in node.targets}
+
+
+def drawn_from(tree):
+    return {node.module.split(".")[-1] + ".py" for node in tree.body if isinstance(node, ast.ImportFrom)}
+
+
 def called_name(node):
     return node.func.attr if isinstance(node.func, ast.Attribute) else getattr(node.func, "id", None)
 
@@ -117,6 +126,64 @@ class Language(unittest.TestCase):
                     self.assertEqual((node.level, node.module.split(".")[0]), (0, "twotimes"), name)
                     self.assertIn(node, tree.body, name)
                     self.assertNotIn("*", [alias.name for alias in node.names], name)
+
+    def test_tops_hold_plain_values(self):
+        for name, tree in trees():
+            for number, node in enumerate(tree.body):
+                if isinstance(node, ast.Expr):
+                    self.assertEqual((number, type(ast.literal_eval(node.value))), (0, str), name)
+                elif isinstance(node, ast.Assign):
+                    value = ast.literal_eval(node.value)
+                    within = value.values() if isinstance(value, dict) else value if isinstance(value, list) else ()
+                    self.assertFalse(any(isinstance(thing, (list, dict)) for thing in within), name)
+                else:
+                    self.assertIsInstance(node, (ast.FunctionDef, ast.ClassDef, ast.ImportFrom), name)
+
+    def test_names_are_drawn_from_the_file_that_defines_them(self):
+        tops = dict(trees())
+        for name, tree in tops.items():
+            defining = [node for node in tree.body if not isinstance(node, (ast.Expr, ast.ImportFrom))]
+            self.assertEqual(len(defined_names(tree)), len(defining), name)
+            for node in tree.body:
+                if isinstance(node, ast.ImportFrom):
+                    drawn = {alias.name for alias in node.names}
+                    self.assertEqual(drawn - defined_names(tops[node.module.split(".")[-1] + ".py"]), set(), name)
+
+    def test_no_two_files_draw_from_one_another(self):
+        drawn = {name: drawn_from(tree) for name, tree in trees()}
+        while drawn:
+            free = [name for name in drawn if not drawn[name] & set(drawn)]
+            self.assertNotEqual(free, [], drawn)
+            for name in free:
+                del drawn[name]
+
+    # A list or dict of a file's top is read on the spot, or handed on as a copy.
+    def test_tops_are_only_read(self):
+        for name, tree in trees():
+            kept = {node.targets[0].id for node in tree.body
+                    if isinstance(node, ast.Assign) and isinstance(node.value, (ast.List, ast.Dict))}
+            reads = [node.value for node in ast.walk(tree) if isinstance(node, (ast.Subscript, ast.Attribute))]
+            reads += [side for node in ast.walk(tree) if isinstance(node, ast.Compare) for side in node.comparators]
+            calls = [node for node in ast.walk(tree) if isinstance(node, ast.Call) and node.args]
+            reads += [node.args[0] for node in calls if called_name(node) in ("dict", "list", "len", "sorted")]
+            for node in ast.walk(tree):
+                if isinstance(node, ast.Name) and node.id in kept and isinstance(node.ctx, ast.Load):
+                    self.assertTrue(any(node is read for read in reads), (name, node.lineno))
+
+    def test_errors_are_the_programs_own(self):
+        own = {node.name for node in nodes_of(ast.ClassDef)}
+        for node in nodes_of(ast.ExceptHandler):
+            self.assertIn(getattr(node.type, "id", None), own | {"KeyError", "ZeroDivisionError"}, node.lineno)
+        for node in nodes_of(ast.Raise):
+            self.assertIn(called_name(node.exc), own, node.lineno)
+            self.assertTrue(node.cause is None or isinstance(node.cause, ast.Name), node.lineno)
+
+    def test_texts(self):
+        for node in nodes_of(ast.Constant):
+            self.assertFalse(isinstance(node.value, str) and "%" in node.value, node.lineno)
+        for node in nodes_of(ast.FormattedValue):
+            self.assertIsInstance(node.value, ast.Name, node.lineno)
+            self.assertIsNone(node.format_spec, node.lineno)
 
     def test_names(self):
         for name, tree in trees():

@@ -1,9 +1,10 @@
 """Books: sheets by names, on which nothing is told that breaks a rule."""
 
+from twotimes.changes import table_at
 from twotimes.checks import check_in_reach
 from twotimes.errors import Broken, NoSheet
 from twotimes.sheets import check_telling, line_behind
-from twotimes.tables import table_at, with_line
+from twotimes.tables import with_line
 from twotimes.tiles import Tiled
 
 

@@ -1,8 +1,9 @@
 """Joins of two sheets, each at a knowing, by nothing but what every sheet answers."""
 
+from twotimes.changes import table_at
 from twotimes.lines import laid_together
 from twotimes.stretches import common
-from twotimes.tables import holders_in, table_at
+from twotimes.tables import holders_in
 
 
 def by_key(sheet, knowing, other, other_knowing):

@@ -1,10 +1,6 @@
 """Tables: dicts from keys to lines, without empty ones."""
 
 
-def table_at(sheet, knowing):
-    return dict([(key, sheet.line_at(key, knowing)) for key in sheet.keys_at(knowing)])
-
-
 def with_line(table, key, line):
     told = dict([(known, table[known]) for known in table if known != key])
     if line:
