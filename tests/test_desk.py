@@ -181,7 +181,7 @@ class NoRows(Desks):
 
     def test_other_first_words(self):
         desk = desk_told()
-        words = ("", "-", "when", "who", "tell", "forget", "known", "log", "what?", "WHAT", "Line", "ALL", "tile", "0")
+        words = ("", "-", "when", "who", "tell", "forget", "keys", "log", "what?", "WHAT", "Line", "ALL", "tile", "0")
         for first in words:
             for many in range(7):
                 self.check_says_refused(desk, NoRow, " ".join([first] + ["one", "ada", "red", "0", "5", "now"][:many]))

@@ -375,8 +375,9 @@ class Sizes(Case):
             before = len(sheet.tiles())
             wanted = tiles_left(plain.tiles(), knowing)
             self.assertEqual(sheet.forget(knowing), before - len(wanted))
-            self.assertEqual(sheet.tiles(), wanted)
-        self.assertEqual(sheet.line_at("ada", 1000), plain.line_at("ada", 1000))
+            # assertEqual would be long about telling where two such lists differ.
+            self.assertTrue(sheet.tiles() == wanted)
+        self.assertTrue(sheet.line_at("ada", 1000) == plain.line_at("ada", 1000))
 
 
 if __name__ == "__main__":

@@ -353,7 +353,9 @@ class Sizes(Case):
             lines.append(f"put one ada red {3 * number} {3 * number + 1}\n")
         text = "".join(lines)
         book = come_up(NAMES, rules(), text)
-        self.assertEqual((book.knowings(), log_of(book)), (1000, text))
+        self.assertEqual(book.knowings(), 1000)
+        # assertEqual would be long about telling where two such texts differ.
+        self.assertTrue(log_of(book) == text)
         self.assertEqual(book.known(999), [("empty", 0), ("one", 499), ("two", 500)])
 
     def test_lines_of_a_hundred_signs(self):
